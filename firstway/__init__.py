@@ -1,0 +1,1 @@
+"""Firstway: patterns over texts that change, one meaning by every machine."""

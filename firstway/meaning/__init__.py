@@ -1,0 +1,1 @@
+"""Pattern trees and their one meaning."""

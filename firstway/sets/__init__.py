@@ -1,0 +1,1 @@
+"""Sets of character codes."""
