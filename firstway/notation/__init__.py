@@ -1,0 +1,1 @@
+"""Patterns as texts."""

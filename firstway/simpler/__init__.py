@@ -1,0 +1,1 @@
+"""Simpler patterns with the same meaning."""

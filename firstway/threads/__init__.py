@@ -1,0 +1,1 @@
+"""Prepared patterns and the moves of their threads."""
