@@ -18,6 +18,14 @@ def parts(tree):
     return ()
 
 
+def nested(kind, trees):
+    """The trees as one tree of this kind, the later ones within the second parts."""
+    whole = trees[-1]
+    for tree in reversed(trees[:-1]):
+        whole = (kind, tree, whole)
+    return whole
+
+
 def bottom_up(tree):
     """All trees in a tree, itself included, from left to right and each behind its parts."""
     found = []

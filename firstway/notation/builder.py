@@ -2,6 +2,7 @@
 
 from firstway.errors import PatternError
 from firstway.meaning.patterns import repeat_factor
+from firstway.meaning.walks import nested
 
 _BRACKETS_AT_MOST = 8
 _LOOKS_AT_MOST = 4
@@ -47,13 +48,13 @@ class Bracket:
         """Ends the present alternative; the next one has no elements yet."""
         if not self.parts:
             self.add_tree(("empty",), 1)
-        self.alternatives.append(_chained("sequence", self.parts))
+        self.alternatives.append(nested("sequence", self.parts))
         self.parts = []
 
     def whole(self):
         """The tree of what stands in the bracket, which is at its end."""
         self.end_alternative()
-        return _chained("choice", self.alternatives)
+        return nested("choice", self.alternatives)
 
 
 class Builder:
@@ -123,14 +124,6 @@ class Builder:
         elif token[0] == "look":
             tree = ("look", token[2], token[3], tree)
         self.brackets[-1].add_tree(tree, bracket.weight)
-
-
-def _chained(kind, trees):
-    """The trees as one tree of this kind, the later ones within the second parts."""
-    whole = trees[-1]
-    for tree in reversed(trees[:-1]):
-        whole = (kind, tree, whole)
-    return whole
 
 
 def build(tokens):

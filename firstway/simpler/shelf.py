@@ -6,7 +6,7 @@ like the tree with numbers in the place of its parts, but ("sequence", numbers) 
 the second part, and so on, and last the second part that is not of this kind itself.
 """
 
-from firstway.meaning.walks import bottom_up, parts
+from firstway.meaning.walks import bottom_up, nested, parts
 
 
 class Shelf:
@@ -62,7 +62,7 @@ class Shelf:
             row = self.rows[part]
             below = [trees[inner] for inner in row_parts(row)]
             if row[0] in ("sequence", "choice"):
-                trees[part] = _nested(row[0], below)
+                trees[part] = nested(row[0], below)
             else:
                 trees[part] = with_parts(row, below)
         return trees[number]
@@ -96,11 +96,3 @@ def with_parts(tree, below):
     if kind == "look":
         return (kind, tree[1], tree[2], below[0])
     return tree
-
-
-def _nested(kind, trees):
-    """The tree along whose second parts these trees stand."""
-    whole = trees[-1]
-    for tree in reversed(trees[:-1]):
-        whole = (kind, tree, whole)
-    return whole
