@@ -154,6 +154,15 @@ class CellsTest(unittest.TestCase):
         self.assertEqual([cell([0, 128], code) for code in (0, 127)], [1, 1])
         self.assertEqual([cell([], 5), cell([5], 4), cell([5], 5), cell([5], 6)], [0, 0, 1, 1])
 
+    def test_arguments_stay_and_lists_are_new(self):
+        sets = [((9, 11),), (), ((5, 10),)]
+        borders = cuts(sets)
+        samples(sets).clear()
+        cell(borders, 7)
+        self.assertEqual((sets, borders), ([((9, 11),), (), ((5, 10),)], [5, 9, 10, 11]))
+        borders.clear()
+        self.assertEqual((cuts(sets), samples(sets)), ([5, 9, 10, 11], [0, 5, 9, 10, 11]))
+
     def test_cells_tell_codes_apart(self):
         chance = random.Random(13)
         for _ in range(100):
