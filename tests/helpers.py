@@ -3,6 +3,13 @@
 import contextlib
 import sys
 
+from firstway.meaning.patterns import weight
+from firstway.notation.printer import print_pattern
+from firstway.pattern import Pattern
+from firstway.threads.cores import prepare
+from tests.machine_oracle import plain_rows
+from tests.oracle import Maker
+
 
 def one(sign):
     """The set tree of one character."""
@@ -43,3 +50,20 @@ def few_calls():
         yield
     finally:
         sys.setrecursionlimit(limit)
+
+
+def small_trees(seed, count, *, length=8, heaviest=60):
+    """Tuples of a tree, a text, the prepared tree, and the bits of its looks by the plain meaning."""
+    maker = Maker(seed)
+    for _ in range(count):
+        tree = maker.tree(maker.chance.randint(1, 5))
+        if weight(tree) <= heaviest:
+            text = maker.text(length)
+            yield tree, text, prepare(tree), plain_rows(tree, text)
+
+
+def small_patterns(seed, count, *, length=8):
+    """Tuples of a Pattern and a text."""
+    for tree, text, prepared, _ in small_trees(seed, count, length=length):
+        source = print_pattern(tree, (None,) * prepared.group_total)
+        yield Pattern(source, flags="m"), text

@@ -10,7 +10,7 @@ ROOT = pathlib.Path(__file__).resolve().parent.parent / "firstway"
 FILES = sorted(ROOT.rglob("*.py"))
 ALLOWED_BUILTINS = set(
     "len range enumerate zip min max sum abs sorted reversed int str bool list tuple dict set "
-    "isinstance ord repr any all divmod Exception ValueError KeyError StopIteration "
+    "isinstance ord repr any all divmod property Exception ValueError KeyError StopIteration "
     "NotImplementedError".split()
 )
 BARRED_NAMES = set(
@@ -21,8 +21,9 @@ BARRED_WORDS = set(
     "type typing enum Enum Flag Generic Protocol ABC namedtuple NamedTuple TypedDict dataclass overload".split()
 )
 BARRED_NODES = (
-    ast.Global, ast.AsyncFunctionDef, ast.Await, ast.Div, ast.Lambda, ast.Import, ast.Try, ast.Set,
+    ast.Global, ast.AsyncFunctionDef, ast.Await, ast.Div, ast.Lambda, ast.Import, ast.Set,
 )
+OWN_ERRORS = {node.name for node in ast.parse((ROOT / "errors.py").read_text()).body if isinstance(node, ast.ClassDef)}
 
 
 def tree_of(path):
@@ -68,7 +69,9 @@ class LanguageTest(unittest.TestCase):
             self.assertLessEqual(max(len(line) for line in lines), 120)
             for node in functions_in(tree_of(path)):
                 self.assertLessEqual(node.end_lineno - node.lineno + 1, 40, node.name)
-                self.assertEqual(node.decorator_list, [])
+                for decorator in node.decorator_list:
+                    self.assertEqual(decorator.id, "property")
+                    self.assertEqual([part.arg for part in node.args.args], ["self"])
 
     def test_statements_and_imports(self):
         for path in FILES:
@@ -88,6 +91,31 @@ class LanguageTest(unittest.TestCase):
                 for alias in node.names:
                     self.assertIn(alias.name, defined)
                     self.assertIsNone(alias.asname)
+
+    def test_own_errors_alone_are_caught(self):
+        for path in FILES:
+            for node in ast.walk(tree_of(path)):
+                if isinstance(node, ast.Try):
+                    self.assertFalse(node.finalbody)
+                if isinstance(node, ast.ExceptHandler):
+                    self.assertIn(node.type.id, OWN_ERRORS)
+
+    def test_generators_are_iterated_at_once(self):
+        trees = [tree_of(path) for path in FILES]
+        generators = {
+            function.name for tree in trees for function in functions_in(tree)
+            if any(isinstance(node, (ast.Yield, ast.YieldFrom)) for node in ast.walk(function))
+        }
+        self.assertEqual(generators, {"walk_moves", "each_match"})
+        for tree in trees:
+            iterated = [node.iter for node in ast.walk(tree) if isinstance(node, (ast.For, ast.comprehension))]
+            for node in ast.walk(tree):
+                if isinstance(node, ast.Call) and isinstance(node.func, ast.Name) and node.func.id == "list":
+                    iterated += node.args
+            for node in ast.walk(tree):
+                if isinstance(node, ast.Call):
+                    name = getattr(node.func, "id", getattr(node.func, "attr", None))
+                    self.assertTrue(name not in generators or node in iterated, name)
 
     def test_no_circles_of_imports(self):
         needs = {module_of(path): [n.module for n in imports_of(tree_of(path))] for path in FILES}

@@ -4,12 +4,12 @@ from firstway.errors import FlagsError, NotASet
 from firstway.notation.builder import build
 from firstway.notation.tokens import read_tokens
 
-_FLAGS = ("", "i", "m", "s", "im", "is", "ms", "ims")
+FLAGS = ("", "i", "m", "s", "im", "is", "ms", "ims")
 
 
 def read_pattern(source, flags):
     """The tree of a source and the tuple of the names of its groups."""
-    if flags not in _FLAGS:
+    if flags not in FLAGS:
         raise FlagsError("the flags are none of those that are known")
     return build(read_tokens(source, flags))
 

@@ -1,0 +1,1 @@
+"""Scanners and their rules."""

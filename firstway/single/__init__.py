@@ -1,0 +1,1 @@
+"""Patterns that never leave a choice."""
