@@ -1,0 +1,1 @@
+"""Feeds: texts that come in pieces."""
