@@ -52,9 +52,9 @@ def few_calls():
         sys.setrecursionlimit(limit)
 
 
-def small_trees(seed, count, *, length=8, heaviest=60):
+def small_trees(seed, count, *, length=8, heaviest=60, looks=3):
     """Tuples of a tree, a text, the prepared tree, and the bits of its looks by the plain meaning."""
-    maker = Maker(seed)
+    maker = Maker(seed, looks=looks)
     for _ in range(count):
         tree = maker.tree(maker.chance.randint(1, 5))
         if weight(tree) <= heaviest:
@@ -62,8 +62,8 @@ def small_trees(seed, count, *, length=8, heaviest=60):
             yield tree, text, prepare(tree), plain_rows(tree, text)
 
 
-def small_patterns(seed, count, *, length=8):
+def small_patterns(seed, count, *, length=8, looks=3):
     """Tuples of a Pattern and a text."""
-    for tree, text, prepared, _ in small_trees(seed, count, length=length):
+    for tree, text, prepared, _ in small_trees(seed, count, length=length, looks=looks):
         source = print_pattern(tree, (None,) * prepared.group_total)
         yield Pattern(source, flags="m"), text

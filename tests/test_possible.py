@@ -6,7 +6,7 @@ from firstway.feeds.possible import fillable, possible, shortest_text
 from firstway.meaning.patterns import look_total, weight
 from firstway.notation.reader import read_pattern
 from firstway.threads.cores import Core, prepare
-from tests import machine_oracle
+from tests import feed_oracle, machine_oracle
 from tests.helpers import chain, few_calls, left_chain, one
 from tests.oracle import Maker
 
@@ -17,31 +17,6 @@ EMPTY = ("empty",)
 
 def core_of(source):
     return prepare(read_pattern(source, "")[0]).core
-
-
-def slow_possible(core_tree):
-    kind = core_tree[0]
-    if kind == "set":
-        return any(low <= code < high for low, high in core_tree[2] for code in (9, 10, *range(32, 37), *range(38, 127)))
-    if kind == "sequence":
-        return slow_possible(core_tree[1]) and slow_possible(core_tree[2])
-    if kind == "choice":
-        return slow_possible(core_tree[1]) or slow_possible(core_tree[2])
-    if kind == "nonempty":
-        return slow_fillable(core_tree[1])
-    return True
-
-
-def slow_fillable(core_tree):
-    kind = core_tree[0]
-    if kind == "set":
-        return slow_possible(core_tree)
-    if kind == "sequence":
-        one_is = slow_fillable(core_tree[1]) or slow_fillable(core_tree[2])
-        return one_is and slow_possible(core_tree)
-    if kind == "choice":
-        return slow_fillable(core_tree[1]) or slow_fillable(core_tree[2])
-    return kind in ("nonempty", "star") and slow_fillable(core_tree[1])
 
 
 def parts_of(core_tree):
@@ -95,8 +70,8 @@ class PossibleTest(unittest.TestCase):
         maker = Maker(79)
         for _ in range(800):
             for core_tree in parts_of(prepare(maker.tree(5)).core.tree):
-                self.assertIs(possible(core_tree), slow_possible(core_tree), core_tree)
-                self.assertIs(fillable(core_tree), slow_fillable(core_tree), core_tree)
+                self.assertIs(possible(core_tree), feed_oracle.possible(core_tree), core_tree)
+                self.assertIs(fillable(core_tree), feed_oracle.fillable(core_tree), core_tree)
 
     def test_great_trees(self):
         with few_calls():

@@ -1,55 +1,70 @@
 """What texts could be taken by core trees if all anchors and bits held."""
 
-from firstway.meaning.walks import bottom_up
 from firstway.sets.characters import TEXT_CODES, character
 from firstway.sets.ranges import common, least
+from firstway.threads.layout import Layout
 
 
 def possible(core_tree):
     """Whether some text could be taken by the core tree."""
-    return _least_texts(core_tree)[0] is not None
+    return _least_texts(Layout(core_tree))[0][0] is not None
 
 
 def fillable(core_tree):
     """Whether some text that is not empty could be taken by the core tree."""
-    return _least_texts(core_tree)[1] is not None
+    return _least_texts(Layout(core_tree))[0][1] is not None
 
 
 def shortest_text(core, number):
     """A shortest text that can be taken behind the set with a number, or by the whole core tree
     for None; None if there is no such text."""
-    core_trees = (core.tree,) if number is None else core.rests[number]
-    shortest = ""
-    for core_tree in core_trees:
-        shortest = _both(shortest, _least_texts(core_tree)[0])
-    return shortest
+    return shortest_left(core)[number]
 
 
-def _least_texts(core_tree):
-    """A shortest text and a shortest text that is not empty, of what can be taken, or None each."""
-    done = []
-    for part in bottom_up(core_tree):
-        kind = part[0]
-        if kind == "set":
-            done.append(_least_of_set(part[2]))
-        elif kind in ("sequence", "choice"):
-            second = done.pop()
-            first = done.pop()
-            done.append(_least_of_two(kind, first, second))
-        elif kind in ("nonempty", "star"):
-            _, filled = done.pop()
-            done.append((filled if kind == "nonempty" else "", filled))
-        else:
-            done.append(("", None))
-    return done[0]
+def shortest_left(core):
+    """A dict with such a text, or None, for the number of each set and for None."""
+    layout = core.layout
+    texts = _least_texts(layout)
+    behind = [""] * len(layout.trees)
+    for place, tree in enumerate(layout.trees):
+        first = layout.inside[place]
+        if tree[0] == "sequence":
+            behind[first] = _both(texts[first + 1][0], behind[place])
+            behind[first + 1] = behind[place]
+        elif tree[0] == "choice":
+            behind[first] = behind[place]
+            behind[first + 1] = behind[place]
+        elif tree[0] in ("nonempty", "star"):
+            # Behind the part of a star stands the star, which need not take anything.
+            behind[first] = behind[place]
+    left = {number: behind[place] for number, place in layout.set_places.items()}
+    left[None] = texts[0][0]
+    return left
 
 
-def _least_of_set(codes):
-    """The two texts of a set."""
+def least_character(codes):
+    """The least character of texts in a set, or None."""
     code = least(common(codes, TEXT_CODES))
-    if code is None:
-        return (None, None)
-    return (character(code), character(code))
+    return None if code is None else character(code)
+
+
+def _least_texts(layout):
+    """A list by place: a shortest text and a shortest text that is not empty, of what can be
+    taken there, or None each."""
+    texts = [("", None)] * len(layout.trees)
+    for place in reversed(range(len(layout.trees))):
+        tree = layout.trees[place]
+        kind = tree[0]
+        first = layout.inside[place]
+        if kind == "set":
+            sign = least_character(tree[2])
+            texts[place] = (sign, sign)
+        elif kind in ("sequence", "choice"):
+            texts[place] = _least_of_two(kind, texts[first], texts[first + 1])
+        elif kind in ("nonempty", "star"):
+            _, filled = texts[first]
+            texts[place] = (filled if kind == "nonempty" else "", filled)
+    return texts
 
 
 def _least_of_two(kind, first, second):

@@ -15,15 +15,15 @@ class Shelf:
     def __init__(self):
         self.rows = []
         self.bare = []
-        self.numbers = {}
+        self.places = {}
 
     def number_of(self, row):
         """The number of a row, a new one if it is not on the shelf."""
-        if row not in self.numbers:
-            self.numbers[row] = len(self.rows)
+        if row not in self.places:
+            self.places[row] = len(self.rows)
             self.rows.append(row)
             self.bare.append(row[0] != "group" and self.all_bare(row_parts(row)))
-        return self.numbers[row]
+        return self.places[row]
 
     def all_bare(self, numbers):
         """Whether all these trees are bare."""

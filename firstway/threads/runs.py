@@ -79,7 +79,12 @@ def next_begin(candidate):
 
 def searches(prepared, view):
     """The list of the searches of a text, one behind another."""
-    found = [search(prepared, view, 0)]
+    return searches_from(prepared, view, 0)
+
+
+def searches_from(prepared, view, position):
+    """The list of the searches from a position on, one behind another."""
+    found = [search(prepared, view, position)]
     while found[-1][1] is not None:
         found.append(search(prepared, view, next_begin(found[-1][1])))
     return found

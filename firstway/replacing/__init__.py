@@ -1,0 +1,1 @@
+"""Replacing matches and splitting texts."""
