@@ -98,7 +98,8 @@ class LanguageTest(unittest.TestCase):
                 if isinstance(node, ast.Try):
                     self.assertFalse(node.finalbody)
                 if isinstance(node, ast.ExceptHandler):
-                    self.assertIn(node.type.id, OWN_ERRORS)
+                    caught = node.type.elts if isinstance(node.type, ast.Tuple) else [node.type]
+                    self.assertTrue(OWN_ERRORS.issuperset(name.id for name in caught))
 
     def test_generators_are_iterated_at_once(self):
         trees = [tree_of(path) for path in FILES]

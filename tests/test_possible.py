@@ -68,7 +68,7 @@ class PossibleTest(unittest.TestCase):
 
     def test_word_by_word(self):
         maker = Maker(79)
-        for _ in range(800):
+        for _ in range(300):
             for core_tree in parts_of(prepare(maker.tree(5)).core.tree):
                 self.assertIs(possible(core_tree), feed_oracle.possible(core_tree), core_tree)
                 self.assertIs(fillable(core_tree), feed_oracle.fillable(core_tree), core_tree)

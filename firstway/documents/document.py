@@ -6,7 +6,7 @@ from firstway.errors import TooManyPatterns, UnknownPattern
 from firstway.lengths import check_length
 from firstway.pattern import Pattern
 
-_PATTERNS_AT_MOST = 4
+PATTERNS_AT_MOST = 4
 _NO_WORK = (0, 0)
 
 
@@ -25,8 +25,8 @@ class Document:
     def add(self, source, *, flags=""):
         """Adds a pattern behind the others; returns its number."""
         pattern = Pattern(source, flags=flags)
-        if len(self._kept_patterns) == _PATTERNS_AT_MOST:
-            raise TooManyPatterns(f"there are {_PATTERNS_AT_MOST} patterns")
+        if len(self._kept_patterns) == PATTERNS_AT_MOST:
+            raise TooManyPatterns(f"there are {PATTERNS_AT_MOST} patterns")
         number = self.next_number
         self.next_number = number + 1
         self._put(number, pattern)

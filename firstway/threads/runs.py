@@ -56,16 +56,17 @@ class Run:
         return not self.renewing and self.position != self.first_position
 
 
-def _run_through(run, view):
-    """Lets a run go on until it is over."""
+def whole_run(core, registers, view, position, *, renewing):
+    """A run from a position that has gone on until it is over."""
+    run = Run(core, registers, position, renewing=renewing)
     while not run.over(len(view.text)):
         run.step(view.spot(run.position))
+    return run
 
 
 def search(prepared, view, position):
     """The search from a position: where it began, its candidate or None, and its reach."""
-    run = Run(prepared.core, fresh(prepared), position, renewing=True)
-    _run_through(run, view)
+    run = whole_run(prepared.core, fresh(prepared), view, position, renewing=True)
     return (position, run.candidate, run.position)
 
 
@@ -92,8 +93,7 @@ def searches_from(prepared, view, position):
 
 def first_way(core, registers, view, position):
     """The first way of a core from a position as a tuple (end, registers), or None."""
-    run = Run(core, registers, position, renewing=False)
-    _run_through(run, view)
+    run = whole_run(core, registers, view, position, renewing=False)
     if run.candidate is None:
         return None
     _, end, held = run.candidate
