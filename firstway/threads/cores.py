@@ -2,6 +2,7 @@
 
 from firstway.meaning.patterns import inner_groups
 from firstway.threads.layout import Layout
+from firstway.threads.visits import Visits
 from firstway.threads.writing import write_core
 
 
@@ -12,6 +13,7 @@ class Core:
         self.tree = tree
         self.backward = backward
         self.layout = Layout(tree)
+        self.visits = Visits(self.layout)
         self.sets = self.layout.set_codes()
         self.rests = tuple([self.layout.rest(number) for number in range(len(self.sets))])
 

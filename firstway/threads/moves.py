@@ -1,10 +1,7 @@
 """The moves of what is left of a core.
 
-The places of the core are visited in the order of the moves. A place that is visited again could
-only give moves that have been found, so it is passed over. But it depends on the way to a place
-what can be found from there: a star or nonempty that was entered on this way is not left without
-taking anything, while what is left behind a set leaves it, and enters the star anew. So a visit is
-a place and whether the innermost star or nonempty around it was entered on the way.
+The places of the core are visited in the order of the moves. A visit that is made again could only
+give moves that have been found, so it is passed over.
 """
 
 from firstway.meaning.anchors import anchor_holds
@@ -45,24 +42,28 @@ def walk_moves(core, number, spot, registers, seen):
     several times at a spot finds a move once, where it is found first. Without registers the moves
     have None in their place.
     """
-    layout = core.layout
-    todo = [(layout.begin(number), False, registers)]
+    trees = core.layout.trees
+    onward = core.visits.onward
+    todo = [(core.visits.first[number], registers)]
     while todo:
-        place, entered, held = todo.pop()
-        if (place, entered) in seen:
+        visit, held = todo.pop()
+        if visit in seen:
             continue
-        seen[place, entered] = True
+        seen[visit] = True
+        place, _ = visit
         if place == OUT:
             yield (None, held)
             continue
-        tree = layout.trees[place]
+        tree = trees[place]
         if tree[0] == "set":
             yield (tree[1], held)
-        elif tree[0] in ("sequence", "choice", "nonempty", "star", "leave"):
-            for further, further_entered in _further_visits(layout, place, entered):
-                todo.append((further, further_entered, held))
-        elif lets_pass(tree, spot):
-            todo.append((layout.behind[place], entered, _noted(tree, spot.position, held)))
+            continue
+        if tree[0] not in ("choice", "star"):
+            if not lets_pass(tree, spot):
+                continue
+            held = _noted(tree, spot.position, held)
+        for further in onward[visit]:
+            todo.append((further, held))
 
 
 def lets_pass(tree, spot):
@@ -72,32 +73,6 @@ def lets_pass(tree, spot):
     if tree[0] == "anchor":
         return anchor_holds(tree[1], spot.before, spot.after)
     return True
-
-
-def _further_visits(layout, place, entered):
-    """The visits that come next at a place that neither takes nor notes, the first one last."""
-    tree = layout.trees[place]
-    inside = layout.inside[place]
-    if tree[0] == "sequence":
-        return ((inside, entered),)
-    if tree[0] == "choice":
-        return ((inside + 1, entered), (inside, entered))
-    if tree[0] == "leave":
-        return _visits_from_inside(layout, place, entered)
-    if tree[0] == "nonempty":
-        return ((inside, True),)
-    beyond = (layout.behind[place], entered)
-    return (beyond, (inside, True)) if tree[2] else ((inside, True), beyond)
-
-
-def _visits_from_inside(layout, place, entered):
-    """The visits that come next where what is left leaves a star or a nonempty."""
-    if entered:
-        return ()
-    whole = layout.trees[place][1]
-    if layout.trees[whole][0] == "star":
-        return ((whole, False),)
-    return ((layout.behind[place], False),)
 
 
 def _noted(tree, position, registers):
