@@ -84,7 +84,7 @@ def _renewed_searches(prepared, view, old, edit, stretch):
     shift = shift_of(edit)
     kept = _seen_up_to(old, least)
     made = []
-    indexes = {begin: index for index, (begin, _, _) in enumerate(old)}
+    indexes = {found[0]: index for index, found in enumerate(old)}
     begin = next_begin(kept[-1][1]) if kept else 0
     while begin <= greatest or begin - shift not in indexes:
         made.append(search(prepared, view, begin))

@@ -73,7 +73,7 @@ class Feed:
         if self._run.position > len(self._text):
             # The next match begins behind a character that has not come; it may be any.
             return " " + self._left[None]
-        _, number, _ = self._decided_at_end(view)
+        number = self._decided_at_end(view)[1]
         return opening(self.pattern.prepared.core, number, self._left)
 
     def _check_going(self):
@@ -105,7 +105,7 @@ class Feed:
 
     def _any_possible(self, threads):
         """Whether some text could be taken by what is left for one of the threads."""
-        return any([self._left[number] is not None for _, number, _ in threads])
+        return any([self._left[thread[1]] is not None for thread in threads])
 
     def _decided_at_end(self, view):
         """What the threads do first at the end of what has come, where the search stands."""

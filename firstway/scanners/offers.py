@@ -9,7 +9,7 @@ def offer(pattern, view, position):
     run = whole_run(pattern.prepared.core, None, view, position, renewing=False)
     if run.candidate is None:
         return (None, run.position)
-    _, stop, _ = run.candidate
+    stop = run.candidate[1]
     return (stop if stop > position else None, run.position)
 
 

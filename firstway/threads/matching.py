@@ -26,7 +26,7 @@ def _marks_in(registers):
 
 def matches_of(prepared, view, found):
     """The matches of the candidates of a list of searches, in order."""
-    return [match_of(prepared, view, candidate) for _, candidate, _ in found if candidate is not None]
+    return [match_of(prepared, view, row[1]) for row in found if row[1] is not None]
 
 
 def match_from(prepared, view, position):
